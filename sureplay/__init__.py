@@ -1,0 +1,1 @@
+"""Sureplay: exact values of two-player games with chance moves and hidden information."""

@@ -1,0 +1,146 @@
+"""The package as a whole: the interface stands where the document lists it, and the files keep to the language."""
+
+import ast
+import builtins
+import importlib
+import inspect
+import pathlib
+import unittest
+
+FOLDER = pathlib.Path(__file__).resolve().parent.parent / "sureplay"
+
+# The functions and the classes of the interface, the classes with their methods and properties.
+INTERFACE = {
+    "errors": {"GameError": (), "BadRatio": (), "BadText": (), "BadPlan": (), "TooLarge": (), "BadMove": (),
+               "BadEdit": (), "BadVersion": (), "BadPaper": (), "BadCode": ()},
+    "ratio": {"Ratio": ("over", "below", "at_most", "sign", "__add__", "__sub__", "__mul__", "__neg__", "__eq__",
+                        "__ne__", "__bool__", "__str__"),
+              "total": "ratios", "least": "ratios", "greatest": "ratios", "shares": "ratios", "read_ratio": "text"},
+    "lots": {"common": "ratios", "fall": "weights n", "are_lots": "ratios"},
+    "words": {"split_words": "text", "join_words": "words", "is_name": "word", "number_of": "word",
+              "Cursor": ("word", "take_word", "take_number", "take_name", "take_new_name")},
+    "expression": {"read_expression": "cursor room", "expression_words": "expression",
+                   "combine": "sign left right", "value_of": "expression table on seen"},
+    "statement": {"block_words": "block"},
+    "gametext": {"Game": ("__eq__",), "read_game": "text", "pieces_of": "game", "game_text": "game",
+                 "moves_of": "game"},
+    "tree": {"End": (), "Lot": (), "Turn": (), "tree_of": "game"},
+    "views": {"places": "tree", "views_of": "tree player", "rows_of": "tree player", "last_row": "view",
+              "way_to": "view", "remembers": "tree"},
+    "walk": {"Position": (), "follow": "tree choices", "position_of": "node", "run": "game choices", "ends": "tree"},
+}
+
+# What the classes of the interface are made from.
+ARGUMENTS = {
+    ("ratio", "Ratio"): "num den", ("words", "Cursor"): "words options variables sees",
+    ("gametext", "Game"): "options variables rounds", ("tree", "End"): "paid", ("tree", "Lot"): "parts",
+    ("tree", "Turn"): "player view parts",
+}
+
+ALLOWED_BUILTINS = set(
+    "len range enumerate zip min max sum abs sorted reversed int str bool list tuple dict set frozenset isinstance ord "
+    "repr any all divmod pow map iter next super property staticmethod classmethod Exception ValueError TypeError "
+    "KeyError IndexError LookupError ZeroDivisionError ArithmeticError OverflowError RuntimeError NotImplementedError "
+    "AttributeError StopIteration NotImplemented getattr hasattr setattr type".split())
+
+ALLOWED_MODULES = ("math", "heapq", "itertools", "collections")
+
+
+def parameters(function):
+    return " ".join(inspect.signature(function).parameters)
+
+
+class InterfaceTest(unittest.TestCase):
+
+    def test_names_and_arguments(self):
+        for module, names in INTERFACE.items():
+            file = importlib.import_module("sureplay." + module)
+            for name, told in names.items():
+                thing = getattr(file, name)
+                self.assertEqual(thing.__module__, "sureplay." + module)
+                if isinstance(told, str):
+                    self.assertEqual(parameters(thing), told, name)
+                else:
+                    for method in told:
+                        self.assertIn(method, vars(thing), (name, method))
+
+    def test_arguments_of_classes(self):
+        for (module, name), told in ARGUMENTS.items():
+            self.assertEqual(parameters(getattr(importlib.import_module("sureplay." + module), name)), told)
+
+    def test_default_values(self):
+        from sureplay.expression import read_expression, value_of
+        from sureplay.ratio import Ratio
+        from sureplay.words import Cursor
+        for thing, told in ((Ratio, {"den": 1}), (Cursor, {"options": (), "variables": (), "sees": False}),
+                            (read_expression, {"room": 12}), (value_of, {"seen": ()})):
+            found = {name: one.default for name, one in inspect.signature(thing).parameters.items()
+                     if one.default is not inspect.Parameter.empty}
+            self.assertEqual(found, told)
+        for thing, count in ((Cursor, 3), (read_expression, 1)):
+            kinds = [one.kind for one in inspect.signature(thing).parameters.values()]
+            self.assertEqual(kinds.count(inspect.Parameter.KEYWORD_ONLY), count)
+
+
+class LanguageTest(unittest.TestCase):
+
+    def files(self):
+        """The pairs of a name and the text of each file of the package."""
+        return [(path.name, path.read_text(encoding="utf-8")) for path in sorted(FOLDER.glob("*.py"))]
+
+    def test_folder(self):
+        names = sorted(path.name for path in FOLDER.iterdir() if path.name != "__pycache__")
+        self.assertEqual(names, [name for name, _ in self.files()])
+        self.assertIn("__init__.py", names)
+        for name in INTERFACE:
+            self.assertIn(name + ".py", names)
+
+    def test_characters_and_sizes(self):
+        for name, text in self.files():
+            lines = text.splitlines()
+            self.assertLess(len(lines), 400, name)
+            self.assertTrue(all(len(line) <= 120 for line in lines), name)
+            self.assertTrue(all(sign == "\n" or " " <= sign <= "~" for sign in text), name)
+            for node in ast.walk(ast.parse(text)):
+                if isinstance(node, ast.FunctionDef):
+                    self.assertLessEqual(node.end_lineno - node.lineno, 39, (name, node.name))
+
+    def test_imports(self):
+        for name, text in self.files():
+            for node in ast.walk(ast.parse(text)):
+                self.assertNotIsInstance(node, ast.Import, name)
+                if isinstance(node, ast.ImportFrom):
+                    self.assertEqual(node.level, 0, name)
+                    own = node.module.startswith("sureplay.")
+                    self.assertTrue(own or node.module in ALLOWED_MODULES, (name, node.module))
+                    for one in node.names:
+                        self.assertIsNone(one.asname, name)
+                        if own:
+                            home = importlib.import_module(node.module)
+                            origin = getattr(getattr(home, one.name), "__module__", node.module)
+                            self.assertEqual(origin, node.module, (name, one.name))
+
+    def test_names(self):
+        known = set(dir(builtins))
+        for name, text in self.files():
+            for node in ast.walk(ast.parse(text)):
+                if isinstance(node, ast.Name) and node.id in known:
+                    self.assertIsInstance(node.ctx, ast.Load, (name, node.id))
+                    self.assertIn(node.id, ALLOWED_BUILTINS, (name, node.id))
+                elif isinstance(node, ast.arg):
+                    self.assertNotIn(node.arg, known, name)
+                elif isinstance(node, ast.FunctionDef) and not node.name.startswith("__"):
+                    self.assertNotIn(node.name, known, name)
+
+    def test_values(self):
+        barred = (ast.AsyncFunctionDef, ast.AsyncFor, ast.AsyncWith, ast.Await, ast.Div)
+        for name, text in self.files():
+            for node in ast.walk(ast.parse(text)):
+                self.assertNotIsInstance(node, barred, name)
+                if isinstance(node, ast.Constant):
+                    self.assertNotIsInstance(node.value, float, name)
+                    self.assertNotIn("%", str(node.value), name)
+
+
+if __name__ == "__main__":
+    unittest.main()
