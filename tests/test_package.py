@@ -28,13 +28,25 @@ INTERFACE = {
     "views": {"places": "tree", "views_of": "tree player", "rows_of": "tree player", "last_row": "view",
               "way_to": "view", "remembers": "tree"},
     "walk": {"Position": (), "follow": "tree choices", "position_of": "node", "run": "game choices", "ends": "tree"},
+    "plan": {"Plan": ("lots_at", "entries"), "pure": "views moves", "even": "views", "fits": "plan tree player",
+             "weight_of": "plan view count move"},
+    "average": {"average": "tree first second", "chances": "tree first second",
+                "average_by_weights": "tree first second"},
+    "answers": {"Answer": (), "best_for": "tree player plan", "answer_plan": "answer tree player",
+                "sure_of": "tree player plan", "all_pure": "tree player"},
+    "linear": {"Outcome": (), "dot": "left right", "greatest": "goal rows bounds"},
+    "exact": {"Solution": (), "solve": "tree"},
 }
 
 # What the classes of the interface are made from.
 ARGUMENTS = {
     ("ratio", "Ratio"): "num den", ("words", "Cursor"): "words options variables sees",
     ("gametext", "Game"): "options variables rounds", ("tree", "End"): "paid", ("tree", "Lot"): "parts",
-    ("tree", "Turn"): "player view parts",
+    ("tree", "Turn"): "player view parts", ("plan", "Plan"): "entries",
+}
+
+METHODS = {
+    ("plan", "Plan"): {"lots_at": "view count", "entries": ""},
 }
 
 ALLOWED_BUILTINS = set(
@@ -67,6 +79,12 @@ class InterfaceTest(unittest.TestCase):
     def test_arguments_of_classes(self):
         for (module, name), told in ARGUMENTS.items():
             self.assertEqual(parameters(getattr(importlib.import_module("sureplay." + module), name)), told)
+
+    def test_arguments_of_methods(self):
+        for (module, name), methods in METHODS.items():
+            for method, told in methods.items():
+                found = vars(getattr(importlib.import_module("sureplay." + module), name))[method]
+                self.assertEqual(parameters(found), " ".join(["self", *told.split()]), (name, method))
 
     def test_default_values(self):
         from sureplay.expression import read_expression, value_of
