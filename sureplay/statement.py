@@ -1,4 +1,4 @@
-"""The statements of a round: read from words, and written as words."""
+"""The statements of a round: read from words, and written as words (those of a brain, too)."""
 
 from sureplay.errors import BadText
 from sureplay.expression import expression_words, read_expression
@@ -85,7 +85,7 @@ class BlockReader:
 
 
 def block_words(block):
-    """The list of the words that write a block of a round."""
+    """The list of the words that write a block of a round, or of a brain."""
     words = []
     for statement in block:
         words.extend(_statement_words(statement))
@@ -100,8 +100,10 @@ def _statement_words(statement):
         return ["when", statement[1], *_branch_words(statement)]
     if kind == "show":
         return ["show", SEATS[statement[1]], *expression_words(statement[2])]
-    if kind == "set":
-        return ["set", statement[1], *expression_words(statement[2])]
+    if kind in ("set", "lot"):
+        return [kind, statement[1], *expression_words(statement[2])]
+    if kind == "while":
+        return ["while", *expression_words(statement[1]), *block_words(statement[2]), "end"]
     if kind == "draw":
         return ["draw", statement[1], str(statement[2])]
     if kind == "move":

@@ -1,4 +1,4 @@
-"""A second way to tell where a text stops being the beginning of a game: a stack of what is still to come."""
+"""A second way to tell where a text stops being the beginning of a game or a brain: a stack of what is to come."""
 
 OPERATORS = ("+", "-", "*", "/", "mod", "<", "=")
 
@@ -9,10 +9,21 @@ KEY_WORDS = OPERATORS + tuple(
 # What may still come when a text is complete.
 OPEN_ENDS = ("options", "variables", "rounds")
 
+# What may also be left out.
+SKIPPED = OPEN_ENDS + ("statements", "else", "keeps")
+
 
 def first_misfit(words):
     """The index at which the words are refused, or None if they write a game."""
-    state = State()
+    return misfit(State(), words)
+
+
+def first_misfit_of_brain(words):
+    """The index at which the words are refused, or None if they write a brain."""
+    return misfit(BrainState(), words)
+
+
+def misfit(state, words):
     for at, word in enumerate(words):
         if not state.accepts(word):
             return at
@@ -42,7 +53,7 @@ class State:
             if behind is not None:
                 self.goals += reversed(behind)
                 return True
-            if kind not in ("options", "variables", "rounds", "statements", "else"):
+            if kind not in SKIPPED:
                 return False
         return False
 
@@ -102,3 +113,35 @@ class State:
 
     def on_else(self, word, depth):
         return [("statement", depth), ("statements", depth)] if word == "else" else None
+
+
+class BrainState(State):
+    """What may still come behind the first words of a brain."""
+
+    def __init__(self):
+        super().__init__()
+        self.goals = [("expression", 12), ("one", ("answer",)), ("statements", 1), ("keeps",),
+                      ("number", 1, 65535), ("one", ("player",))]
+        self.names = {"keep": []}
+
+    def on_keeps(self, word):
+        if word == "keep" and len(self.names["keep"]) < 8:
+            return [("new", "keep"), ("number", 0, 65535), ("keeps",)]
+
+    def on_expression(self, word, room):
+        part = ("expression", room - 1)
+        if word in self.names["keep"] or word == "long" or is_number(word, 0, 65535):
+            return []
+        if room > 1 and word in OPERATORS:
+            return [part, part]
+        if room > 1 and word == "view":
+            return [part]
+
+    def on_statement(self, word, depth):
+        if word in ("set", "lot") and self.names["keep"]:
+            return [("one", self.names["keep"]), ("expression", 12)]
+        inner = [("expression", 12), ("statements", depth + 1)]
+        if word == "while" and depth <= 8:
+            return [*inner, ("one", ("end",))]
+        if word == "if" and depth <= 8:
+            return [*inner, ("else", depth + 1), ("one", ("end",))]

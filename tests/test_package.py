@@ -36,6 +36,12 @@ INTERFACE = {
                 "sure_of": "tree player plan", "all_pure": "tree player"},
     "linear": {"Outcome": (), "dot": "left right", "greatest": "goal rows bounds"},
     "exact": {"Solution": (), "solve": "tree"},
+    "paper": {"Paper": (), "judge": "tree paper", "settles": "tree paper", "paper_text": "tree paper",
+              "read_paper": "tree lines", "belongs": "tree paper"},
+    "tape": {"Tape": ("take", "chance", "following")},
+    "brain": {"Brain": ("start", "__eq__"), "read_brain": "text", "brain_text": "brain"},
+    "think": {"view_numbers": "view", "think": "brain cells view count tape", "outcomes": "brain cells view count"},
+    "mixing": {"lots_of": "brain tree player", "brain_of": "plan tree player"},
 }
 
 # What the classes of the interface are made from.
@@ -43,10 +49,12 @@ ARGUMENTS = {
     ("ratio", "Ratio"): "num den", ("words", "Cursor"): "words options variables sees",
     ("gametext", "Game"): "options variables rounds", ("tree", "End"): "paid", ("tree", "Lot"): "parts",
     ("tree", "Turn"): "player view parts", ("plan", "Plan"): "entries",
+    ("paper", "Paper"): "first second", ("tape", "Tape"): "results", ("brain", "Brain"): "units cells block answer",
 }
 
 METHODS = {
     ("plan", "Plan"): {"lots_at": "view count", "entries": ""},
+    ("tape", "Tape"): {"take": "count", "chance": "", "following": ""}, ("brain", "Brain"): {"start": ""},
 }
 
 ALLOWED_BUILTINS = set(
