@@ -1,8 +1,7 @@
 """What a brain does at a move."""
 
-from sureplay.errors import TooLarge
 from sureplay.expression import value_of
-from sureplay.ratio import Ratio
+from sureplay.ways import all_ways
 
 MOST_WAYS = 200
 
@@ -108,18 +107,5 @@ def outcomes(brain, cells, view, count):
 
     TooLarge if there are more than 200 ways.
     """
-    found = []
-    todo = [(Ratio(1), Thought(brain, cells, view_numbers(view)))]
-    while todo:
-        chance, thought = todo.pop()
-        thought.go_on()
-        many = thought.results
-        if many is None:
-            found.append((chance, *thought.move_and_cells(count)))
-        # Each thought that has begun leads to one way at least, so this many ways are certain.
-        elif len(found) + len(todo) + many > MOST_WAYS:
-            raise TooLarge("lots")
-        else:
-            part = chance * Ratio(1, many)
-            todo.extend([(part, thought.after(result)) for result in reversed(range(many))])
-    return found
+    ways = all_ways(Thought(brain, cells, view_numbers(view)), MOST_WAYS)
+    return [(chance, *thought.move_and_cells(count)) for chance, thought in ways]

@@ -42,6 +42,13 @@ INTERFACE = {
     "brain": {"Brain": ("start", "__eq__"), "read_brain": "text", "brain_text": "brain"},
     "think": {"view_numbers": "view", "think": "brain cells view count tape", "outcomes": "brain cells view count"},
     "mixing": {"lots_of": "brain tree player", "brain_of": "plan tree player"},
+    "table": {"Played": ("__eq__",), "play": "game first second results", "average_of_brains": "game first second"},
+    "code": {"expression_code": "expression slots on", "round_code": "block slots on",
+             "brain_code": "block answer slots"},
+    "program": {"Program": ("__eq__",), "Mind": ("__eq__",), "program_of": "game", "mind_of": "brain"},
+    "check": {"check_code": "code slots moves thinking", "check_program": "program", "check_mind": "mind",
+              "longest": "code"},
+    "machine": {"think_by_code": "mind cells view count tape", "Machine": ("step", "go")},
 }
 
 # What the classes of the interface are made from.
@@ -50,11 +57,14 @@ ARGUMENTS = {
     ("gametext", "Game"): "options variables rounds", ("tree", "End"): "paid", ("tree", "Lot"): "parts",
     ("tree", "Turn"): "player view parts", ("plan", "Plan"): "entries",
     ("paper", "Paper"): "first second", ("tape", "Tape"): "results", ("brain", "Brain"): "units cells block answer",
+    ("table", "Played"): "paid choices taken cells", ("program", "Program"): "sizes moves rounds",
+    ("program", "Mind"): "units cells code", ("machine", "Machine"): "program first second results",
 }
 
 METHODS = {
     ("plan", "Plan"): {"lots_at": "view count", "entries": ""},
     ("tape", "Tape"): {"take": "count", "chance": "", "following": ""}, ("brain", "Brain"): {"start": ""},
+    ("machine", "Machine"): {"step": "", "go": ""},
 }
 
 ALLOWED_BUILTINS = set(
@@ -95,15 +105,16 @@ class InterfaceTest(unittest.TestCase):
                 self.assertEqual(parameters(found), " ".join(["self", *told.split()]), (name, method))
 
     def test_default_values(self):
+        from sureplay.check import check_code
         from sureplay.expression import read_expression, value_of
         from sureplay.ratio import Ratio
         from sureplay.words import Cursor
         for thing, told in ((Ratio, {"den": 1}), (Cursor, {"options": (), "variables": (), "sees": False}),
-                            (read_expression, {"room": 12}), (value_of, {"seen": ()})):
+                            (read_expression, {"room": 12}), (value_of, {"seen": ()}), (check_code, {"thinking": False})):
             found = {name: one.default for name, one in inspect.signature(thing).parameters.items()
                      if one.default is not inspect.Parameter.empty}
             self.assertEqual(found, told)
-        for thing, count in ((Cursor, 3), (read_expression, 1)):
+        for thing, count in ((Cursor, 3), (read_expression, 1), (check_code, 1)):
             kinds = [one.kind for one in inspect.signature(thing).parameters.values()]
             self.assertEqual(kinds.count(inspect.Parameter.KEYWORD_ONLY), count)
 
