@@ -6,11 +6,11 @@ NAMES = (
     "ask", "show", "pay", "take", "view", "long", "unit", "back",
 )
 
-COMMON_NAMES = NAMES[:8]
+COMMON_NAMES = ("push", "load", "store", "sign", "jump", "skip", "lot", "end")
 
-ROUND_NAMES = NAMES[8:12]
+ROUND_NAMES = ("ask", "show", "pay", "take")
 
-BRAIN_NAMES = NAMES[12:]
+BRAIN_NAMES = ("view", "long", "unit", "back")
 
 # How many values an instruction pops, and then how many it pushes.
 POPS = {

@@ -49,6 +49,13 @@ INTERFACE = {
     "check": {"check_code": "code slots moves thinking", "check_program": "program", "check_mind": "mind",
               "longest": "code"},
     "machine": {"think_by_code": "mind cells view count tape", "Machine": ("step", "go")},
+    "fold": {"fold_expression": "expression on", "fold_block": "block on"},
+    "optimize": {"thread_jumps": "code", "optimize_code": "code", "fast_program": "game", "fast_mind": "brain"},
+    "coding": {"program_numbers": "program", "read_program": "numbers"},
+    "compose": {"swapped": "game", "before": "game other", "switched": "game names",
+                "least_switches": "game names aim"},
+    "edits": {"changed": "game change", "changes": "old new", "edit_text": "change", "read_edit": "line"},
+    "space": {"Space": ("versions", "version", "edit", "value", "worth", "journal"), "replay": "game lines"},
 }
 
 # What the classes of the interface are made from.
@@ -59,12 +66,15 @@ ARGUMENTS = {
     ("paper", "Paper"): "first second", ("tape", "Tape"): "results", ("brain", "Brain"): "units cells block answer",
     ("table", "Played"): "paid choices taken cells", ("program", "Program"): "sizes moves rounds",
     ("program", "Mind"): "units cells code", ("machine", "Machine"): "program first second results",
+    ("space", "Space"): "game",
 }
 
 METHODS = {
     ("plan", "Plan"): {"lots_at": "view count", "entries": ""},
     ("tape", "Tape"): {"take": "count", "chance": "", "following": ""}, ("brain", "Brain"): {"start": ""},
     ("machine", "Machine"): {"step": "", "go": ""},
+    ("space", "Space"): {"versions": "", "version": "number", "edit": "change", "value": "number", "worth": "least",
+                         "journal": ""},
 }
 
 ALLOWED_BUILTINS = set(
@@ -158,7 +168,8 @@ class LanguageTest(unittest.TestCase):
                             self.assertEqual(origin, node.module, (name, one.name))
 
     def test_names(self):
-        known = set(dir(builtins))
+        # A doctest that ran before leaves `_` among the builtins.
+        known = set(dir(builtins)) - {"_"}
         for name, text in self.files():
             for node in ast.walk(ast.parse(text)):
                 if isinstance(node, ast.Name) and node.id in known:
