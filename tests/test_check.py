@@ -208,6 +208,8 @@ class ConditionTest(CheckTest):
         self.bad([("push", 1), ("skip", 1), ("back", 1), ("push", 0), END], 2, thinking=True)
         self.bad([("push", 5), UNIT, ("load", 0), ("back", 2)], 3, thinking=True)
         self.bad([UNIT, ("push", 1), ("back", 2)], 2, thinking=True)
+        # A place before the code is not one at its end.
+        self.bad([UNIT, ("back", 2), UNIT], 1, thinking=True)
         self.fine([("push", 5), UNIT, ("back", 1)], 1, thinking=True)
 
     def test_back_leads_behind_nothing(self):

@@ -178,18 +178,20 @@ class BeforeTest(unittest.TestCase):
     def test_value_of_large_trees(self):
         begin = time.monotonic()
         one = read_game("var x 2 var y 2 round a first x 2 second y 2 if = x y pay + x 1 else take 1 end end")
-        two = read_game("var z 3 var w 2 round b draw z 3 show first z first w 2 draw w 5 "
+        two = read_game("var z 3 var w 2 round b draw z 3 show first z first w 2 draw w 7 "
                         "if = w z pay 6 else take w end end")
-        for game in (before(one, two), before(two, one)):
-            self.assertGreater(places(tree_of(game)), 150)
-            self.assertEqual(value(game), value(one) + value(two))
-        three = read_game("var u 8 var v 3 round c draw u 8 show second u second v 2 draw u 4 draw v 3 "
+        three = read_game("var u 8 var v 3 round c draw u 6 show second u second v 2 draw u 4 draw v 3 "
                           "if < u v pay 5 end end")
-        self.assertGreater(places(tree_of(three)), 200)
-        rounds = read_game("var q 9 round d pay 4 end round e take 7 end")
-        self.assertGreater(places(tree_of(before(rounds, three))), 200)
-        self.assertEqual(value(before(rounds, three)), value(three) - Ratio(3))
-        self.assertEqual(value(before(three, rounds)), value(three) - Ratio(3))
+        steady = read_game("var q 9 round d pay 4 end round e take 7 end")
+        for pair, least in (((one, two), 210), ((steady, three), 200), ((two, steady), 50)):
+            told = value(pair[0]) + value(pair[1])
+            for game in (before(*pair), before(*pair[::-1])):
+                self.assertGreater(places(tree_of(game)), least)
+                self.assertEqual(value(game), told)
+        wide = read_game("var u 8 round c first u 8 draw u 9 pay u end")
+        game = before(wide, read_game("var v 4 round f second v 4 if v take 1 end end"))
+        self.assertGreater(places(tree_of(game)), 360)
+        self.assertEqual(value(game), value(wide) - Ratio(1))
         self.assertLess(time.monotonic() - begin, 60)
 
 

@@ -180,6 +180,41 @@ class LanguageTest(unittest.TestCase):
                 elif isinstance(node, ast.FunctionDef) and not node.name.startswith("__"):
                     self.assertNotIn(node.name, known, name)
 
+    def test_names_of_classes_and_imports_mean_nothing_else(self):
+        for name, text in self.files():
+            tree = ast.parse(text)
+            taken = {node.name for node in tree.body if isinstance(node, ast.ClassDef)}
+            for node in tree.body:
+                if isinstance(node, ast.ImportFrom):
+                    taken |= {one.name for one in node.names}
+            for node in ast.walk(tree):
+                if isinstance(node, ast.arg):
+                    self.assertNotIn(node.arg, taken, name)
+                elif isinstance(node, ast.Name) and not isinstance(node.ctx, ast.Load):
+                    self.assertNotIn(node.id, taken, name)
+
+    def test_no_files_import_from_each_other(self):
+        wanted = {}
+        for name, text in self.files():
+            nodes = [node for node in ast.walk(ast.parse(text)) if isinstance(node, ast.ImportFrom)]
+            wanted[name] = {node.module.removeprefix("sureplay.") + ".py" for node in nodes
+                            if node.module.startswith("sureplay.")}
+        # Files that import only from files that are through are through.
+        through = set()
+        while len(through) < len(wanted):
+            more = {name for name in wanted if name not in through and wanted[name] <= through}
+            self.assertTrue(more, sorted(set(wanted) - through))
+            through |= more
+
+    def test_no_name_is_a_method_and_an_attribute_of_a_class(self):
+        for name, text in self.files():
+            for node in ast.walk(ast.parse(text)):
+                if isinstance(node, ast.ClassDef):
+                    methods = {one.name for one in node.body if isinstance(one, ast.FunctionDef)}
+                    stored = {one.attr for one in ast.walk(node)
+                              if isinstance(one, ast.Attribute) and isinstance(one.ctx, ast.Store)}
+                    self.assertEqual(methods & stored, set(), (name, node.name))
+
     def test_values(self):
         barred = (ast.AsyncFunctionDef, ast.AsyncFor, ast.AsyncWith, ast.Await, ast.Div)
         for name, text in self.files():
