@@ -29,32 +29,48 @@ class Turn:
         self.parts = tuple(parts)
 
 
-class Grower:
-    """Grows one tree and counts its nodes, so that a tree that is too large is given up early."""
-
-    def __init__(self):
-        self._places = 0
-
-    def grow(self, course):
-        """The node for where a course has come, with everything below it."""
-        if self._places == MOST_PLACES:
-            raise TooLarge("places")
-        self._places += 1
-        asked = course.asked
-        if asked is None:
-            return End(course.paid)
-        if asked[0] == "draw":
-            return Lot(self._parts(course, asked[2]))
-        player = asked[1]
-        return Turn(player, course.views[player - 1], self._parts(course, asked[3]))
-
-    def _parts(self, course, count):
-        return [self.grow(course.after(k)) for k in range(count)]
-
-
 def tree_of(game):
     """The tree of a game; TooLarge if it would have more than 400 nodes."""
-    return Grower().grow(begin(game))
+    # A node is made when those below it are there, without calls in calls: all 400 nodes may lie on a single way.
+    made = []
+    for course in _courses_of(game)[::-1]:
+        parts = [made.pop() for _ in range(_count_behind(course))]
+        made.append(_node_at(course, parts))
+    return made[0]
+
+
+def _courses_of(game):
+    """The courses of a game at all nodes of its tree, in the order of `nodes_of`."""
+    courses = []
+    todo = [begin(game)]
+    while todo:
+        course = todo.pop()
+        courses.append(course)
+        count = _count_behind(course)
+        # Each of these is a node at least, so a tree that is too large is given up early.
+        if len(courses) + len(todo) + count > MOST_PLACES:
+            raise TooLarge("places")
+        todo.extend([course.after(k) for k in reversed(range(count))])
+    return courses
+
+
+def _count_behind(course):
+    """The number of nodes directly below the one where a course has come."""
+    asked = course.asked
+    if asked is None:
+        return 0
+    return asked[2] if asked[0] == "draw" else asked[3]
+
+
+def _node_at(course, parts):
+    """The node where a course has come, with these nodes below it."""
+    asked = course.asked
+    if asked is None:
+        return End(course.paid)
+    if asked[0] == "draw":
+        return Lot(parts)
+    player = asked[1]
+    return Turn(player, course.views[player - 1], parts)
 
 
 def parts_of(node):

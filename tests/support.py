@@ -1,6 +1,22 @@
 """What several tests use: games made at random from a fixed seed, and a slow second way to run games."""
 
 import random
+import sys
+
+
+def shallow(call, *arguments):
+    """What the call returns, with room for only a hundred calls that stand in each other."""
+    depth = 100
+    frame = sys._getframe()
+    while frame is not None:
+        depth += 1
+        frame = frame.f_back
+    limit = sys.getrecursionlimit()
+    sys.setrecursionlimit(depth)
+    try:
+        return call(*arguments)
+    finally:
+        sys.setrecursionlimit(limit)
 
 
 def refusal(kind, call, *arguments, **named):
